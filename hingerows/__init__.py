@@ -1,0 +1,1 @@
+"""Hingerows: motions in space that are rows of hinges."""

@@ -1,0 +1,86 @@
+"""The interface: each name in its file, with its parameters, and each method in its own class."""
+
+import importlib
+import inspect
+import unittest
+
+FUNCTIONS = {
+    "basics": ["is_integer(value)", "is_count(value)", "is_list(value)"],
+    "ratios": ["is_number(value)"],
+    "fours": [
+        "is_four(value)", "is_point(value)", "times_fours(four, other)", "norm_four(four)", "undone_four(four)",
+    ],
+    "poses": [
+        "turn_pose(four)", "go_pose(point)", "led(pose, point)", "turned(pose)", "gone(pose)",
+        "same_pose(pose, other)",
+    ],
+    "lines": [
+        "is_line(value)", "told_line(line)", "line_through(point, other)", "is_on(line, point)", "line_of(hinge)",
+        "hinge_by(line, number, scale)", "led_line(pose, line)", "far(line, other)", "sine(line, other)",
+        "kind(line, other)",
+    ],
+    "polys": [
+        "is_poly(value)", "told(poly)", "degree(poly)", "plus(poly, other)", "minus(poly, other)",
+        "times(poly, other)", "scaled(poly, number)", "derived(poly)", "worth(poly, number)",
+        "divided(poly, other)", "common(poly, other)",
+    ],
+    "motions": ["hinge_motion(hinge)", "row_motion(row)", "number_part(motion)"],
+    "divisions": [
+        "right_divided(motion, other)", "left_divided(motion, other)", "right_worth(motion, eight)",
+        "rest_by(motion, poly)",
+    ],
+}
+CLASSES = {
+    ("ratios", "Ratio"): [
+        "__init__(self, top, bottom=1)", "over(self, other)", "size(self)", "is_below(self, other)",
+        "is_at_most(self, other)", "__add__(self, other)", "__sub__(self, other)", "__mul__(self, other)",
+        "__radd__(self, other)", "__rsub__(self, other)", "__rmul__(self, other)", "__neg__(self)",
+        "__eq__(self, other)", "__str__(self)", "__repr__(self)",
+    ],
+    ("eights", "Eight"): [
+        "__init__(self, first, second=(0, 0, 0, 0))", "first(self)", "second(self)", "mirror(self)",
+        "undone(self)", "norm(self)", "times(self, number)", "__add__(self, other)", "__sub__(self, other)",
+        "__mul__(self, other)", "__neg__(self)", "__eq__(self, other)", "__repr__(self)",
+    ],
+    ("motions", "Motion"): [
+        "__init__(self, eights)", "eights(self)", "norm(self)", "mirror(self)", "worth(self, number)",
+        "__mul__(self, other)", "__eq__(self, other)", "__repr__(self)",
+    ],
+}
+PROPERTIES = {
+    ("ratios", "Ratio"): ["top", "bottom", "sign", "is_whole"],
+    ("eights", "Eight"): ["is_pose", "is_hinge"],
+    ("motions", "Motion"): ["degree", "is_plain"],
+}
+
+
+def module(name):
+    return importlib.import_module("hingerows." + name)
+
+
+class InterfaceTest(unittest.TestCase):
+    def test_functions_stand_in_their_files(self):
+        for place, heads in FUNCTIONS.items():
+            for head in heads:
+                name = head.partition("(")[0]
+                function = getattr(module(place), name)
+                self.assertEqual(head, name + str(inspect.signature(function)))
+                self.assertEqual("hingerows." + place, function.__module__)
+
+    def test_methods_stand_in_their_own_classes(self):
+        for (place, name), heads in CLASSES.items():
+            kind = getattr(module(place), name)
+            self.assertEqual("hingerows." + place, kind.__module__)
+            for head in heads:
+                method = vars(kind)[head.partition("(")[0]]
+                self.assertEqual(head, method.__name__ + str(inspect.signature(method)))
+
+    def test_properties(self):
+        for (place, name), names in PROPERTIES.items():
+            for one in names:
+                self.assertIsInstance(vars(getattr(module(place), name))[one], property)
+
+    def test_totals_are_told_by_the_class(self):
+        kind = module("ratios").Ratio
+        self.assertIsInstance(vars(kind)["total"], classmethod)
+        self.assertEqual("(numbers)", str(inspect.signature(kind.total)))
