@@ -3,7 +3,7 @@
 from hingerows.basics import is_list
 from hingerows.eights import Eight, check_hinge, is_hinge_eight, number_eight
 from hingerows.errors import HeadNotOne, InvalidEights, InvalidMotion, InvalidRow, NotMotion, TooMany
-from hingerows.polys import common, plus, products, scaled, times, worth_at
+from hingerows.polys import common, plus, products, times, worth_at
 from hingerows.ratios import told_number
 
 
@@ -20,7 +20,8 @@ class Motion:
             raise HeadNotOne()
         firsts = columns([eight.first() for eight in eights])
         seconds = columns([eight.second() for eight in eights])
-        if scaled(paired(firsts, seconds), 2):
+        # The second part of the norm is twice this sum, so it is nought exactly if the sum is.
+        if paired(firsts, seconds):
             raise NotMotion()
         self._eights = tuple(eights)
         self._norm = tuple(paired(firsts, firsts))

@@ -47,9 +47,6 @@ class Ratio:
         """The sum of a list of NUMBERS, 0 of none."""
         if not is_list(numbers):
             raise InvalidNumber(numbers)
-        for number in numbers:
-            if not is_number(number):
-                raise InvalidNumber(number)
         result = cls(0)
         for number in numbers:
             result = result + number

@@ -87,7 +87,7 @@ def wrong_lines():
     points = [[0, 0, 0], (1, 0), (1, 0, 0, 0), (1, 0, True), "abc", None, 1]
     inside = [(wrong, (0, 0, 0)) for wrong in points] + [((1, 0, 0), wrong) for wrong in points[1:]]
     shapes = [((1, 0, 0),), ((1, 0, 0), (0, 0, 0), (0, 0, 0)), [(1, 0, 0), (0, 0, 0)], (), []]
-    crooked = [((1, 0, 0), (1, 0, 0)), ((1, 2, 3), (1, 1, Ratio(-2, 3)))]
+    crooked = [((1, 0, 0), (1, 0, 0)), ((1, 2, 3), (1, 1, Ratio(-2, 3))), ((1, 0, 0), (-1, 0, 0))]
     return strangers() + [0, 1, Ratio(1, 2), Eight((0, 1, 0, 0))] + shapes + inside + crooked
 
 
