@@ -61,7 +61,7 @@ def led_line(pose, line):
     """The told line of the points to which the pose leads those of the line."""
     check_pose(pose)
     direction, moment = told_line(line)
-    foot = scaled_numbers(crossed(direction, moment), Ratio(1).over(square(direction)))
+    foot = foot_of((direction, moment))
     return line_through(led(pose, foot), led(pose, added(foot, direction)))
 
 
@@ -89,6 +89,12 @@ def kind(line, other):
     if one[0] == two[0]:
         return "parallel"
     return "meet" if far(one, two).sign == 0 else "apart"
+
+
+def foot_of(line):
+    """The told point of a told line that is nearest to (0, 0, 0)."""
+    direction, moment = line
+    return scaled_numbers(crossed(direction, moment), Ratio(1).over(square(direction)))
 
 
 def difference(point, other):

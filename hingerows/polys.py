@@ -1,5 +1,7 @@
 """Polynomials of numbers, and the steps that polynomials of numbers and of eights share."""
 
+from math import lcm
+
 from hingerows.basics import is_list
 from hingerows.errors import InvalidPoly, NoughtPoly, TooMany
 from hingerows.ratios import Ratio, is_number, told_number
@@ -87,6 +89,20 @@ def common(poly, other):
 def with_head_one(numbers):
     """A told polynomial divided by its head; nought as it is."""
     return [number.over(numbers[-1]) for number in numbers]
+
+
+def sorted_polys(polys):
+    """The told polynomials by their degree, then by their numbers from the first one on."""
+    scale = 1
+    for poly in polys:
+        for number in poly:
+            scale = lcm(scale, number.bottom)
+    return sorted(polys, key=lambda one: sort_key(one, scale))
+
+
+def sort_key(poly, scale):
+    """What stands in sequence as the told polynomial does; the scale is a multiple of all bottoms."""
+    return (len(poly), [number.top * (scale // number.bottom) for number in poly])
 
 
 def padded(numbers, length):

@@ -5,8 +5,13 @@ import unittest
 from fractions import Fraction
 
 from hingerows.eights import Eight
-from hingerows.motions import Motion, hinge_motion
+from hingerows.errors import InvalidDivisor
+from hingerows.motions import Motion, hinge_motion, row_motion
+from hingerows.polys import times
 from hingerows.ratios import Ratio
+
+ONE = Eight((1, 0, 0, 0))
+NOUGHT = Eight((0, 0, 0, 0))
 
 
 class Case(unittest.TestCase):
@@ -32,6 +37,21 @@ class Case(unittest.TestCase):
 
     def assertBool(self, expected, value):
         self.assertIs(expected, value)
+
+    def asked(self, action, **named):
+        """What the action returns, by position and by the interface's names, of lists and of tuples."""
+        before = repr(named)
+        answer = action(*named.values())
+        self.assertEqual(repr(answer), repr(action(**named)))
+        self.assertEqual(repr(answer), repr(action(**{name: as_tuples(value) for name, value in named.items()})))
+        self.assertEqual(before, repr(named))
+        return answer
+
+    def reckoned(self, action, **named):
+        """Likewise, of INTEGERS and of Ratios as well."""
+        answer = self.asked(action, **named)
+        self.assertEqual(repr(answer), repr(action(**{name: as_ratios(value) for name, value in named.items()})))
+        return answer
 
 
 def strangers():
@@ -190,3 +210,106 @@ def some_motions(many, seed=6):
             motion = motion * hinge_motion(hinges[(at + step + 1) % len(hinges)])
         motions.append(motion)
     return motions
+
+
+def as_tuples(value):
+    """The value with tuples for lists."""
+    return tuple([as_tuples(one) for one in value]) if isinstance(value, (list, tuple)) else value
+
+
+def as_ratios(value):
+    """The value with Ratios for INTEGERS."""
+    if isinstance(value, (list, tuple)):
+        return value.__class__([as_ratios(one) for one in value])
+    return Ratio(value) if isinstance(value, int) else value
+
+
+def made_of(*polys):
+    """The product of polynomials of numbers, told."""
+    product = [1]
+    for poly in polys:
+        product = times(product, poly)
+    return product
+
+
+def alone(*eights):
+    """The motion of these eights, the last one, 1, left out."""
+    return Motion([*eights, ONE])
+
+
+def norm_of(hinge):
+    """The quadratic of a hinge by the document's words: t t - 2 r t + r r + the norm of u."""
+    r, *direction = hinge.first()
+    return [r * r + Ratio.total([number * number for number in direction]), r * -2, Ratio(1)]
+
+
+UP = Eight((0, 0, 0, 1))
+SIDE = Eight((0, 2, 0, 0), (0, 0, 0, -2))
+TURN = hinge_motion(UP)
+BOTH = row_motion([UP, SIDE])
+# Three hinges of the same norm about lines apart, and three more of unlike norms.
+LEVEL = Eight((0, 1, 0, 0), (0, 0, 1, 0))
+BESIDE = Eight((0, 0, 1, 0), (0, 0, 0, 3))
+SLANT = Eight((0, Ratio(3, 5), Ratio(4, 5), 0), (0, 4, -3, 1))
+FAST = Eight((1, 1, 1, 0), (0, 1, -1, Ratio(1, 2)))
+SLOW = Eight((Ratio(-1, 2), 3, 0, 1), (0, 1, 2, -3))
+WIDE = Eight((2, 0, Ratio(1, 3), 2), (0, 5, 0, 0))
+# Motions without rows: the norms t^4 + 1, t^4 + 9, t^6 + 2 t^3 + 2, t^8 + 2 t^4 + 2 are whole.
+SQUARE = alone(Eight((0, 1, 0, 0), (0, 0, 2, -1)), NOUGHT)
+SQUARE_NORM = [1, 0, 0, 0, 1]
+THIRD = alone(Eight((0, 0, 3, 0), (0, 1, 0, 1)), NOUGHT)
+THIRD_NORM = [9, 0, 0, 0, 1]
+CUBE = alone(Eight((1, 1, 0, 0), (0, 0, 1, 1)), NOUGHT, NOUGHT)
+CUBE_NORM = [2, 0, 0, 2, 0, 0, 1]
+FOURTH = alone(Eight((1, 0, 0, 1), (0, 2, -1, 0)), NOUGHT, NOUGHT, NOUGHT)
+FOURTH_NORM = [2, 0, 0, 0, 2, 0, 0, 0, 1]
+
+
+def plain_rows():
+    """Rows of one to six hinges whose motions are plain: of like norms, of unlike ones, of some of both."""
+    return [
+        [UP], [SIDE], [UP, SIDE], [SIDE, UP], [UP, UP], [UP, LEVEL], [LEVEL, BESIDE, UP], [UP, SIDE, LEVEL],
+        [FAST, SLOW, WIDE], [UP, SIDE, FAST, LEVEL], [FAST, UP, SLOW, SIDE], [UP, LEVEL, BESIDE, SLANT],
+        [SIDE, SLANT, WIDE, UP, SLOW], [UP, SIDE, FAST, SLOW, WIDE, LEVEL],
+    ]
+
+
+def rowless_motions():
+    """Plain motions with a reason why they have no row."""
+    return [
+        SQUARE, THIRD, CUBE, FOURTH, SQUARE * TURN, TURN * SQUARE, hinge_motion(SIDE) * SQUARE * hinge_motion(FAST),
+        SQUARE * THIRD, CUBE * TURN, Motion([UP, NOUGHT, NOUGHT, ONE]),
+    ]
+
+
+def motions_not_plain():
+    """Motions with a part of numbers: a hinge times its conjugate, and others."""
+    go = alone(Eight((0, 0, 0, 0), (0, 1, 0, 0)))
+    near = Eight((0, 0, 0, -1), (0, 1, 1, 0))
+    return [
+        TURN * TURN.mirror(), row_motion([UP, near]), go, alone(Eight((3, 0, 0, 0))), alone(ONE, NOUGHT),
+        BOTH * BOTH.mirror(), go * BOTH, row_motion([SIDE, UP, near]), row_motion([UP, near, SIDE, FAST, SLOW]),
+        row_motion([UP, near] * 3),
+    ]
+
+
+def plain_motions():
+    return [row_motion(row) for row in plain_rows()] + rowless_motions()
+
+
+def lifted(poly):
+    """The eights of a polynomial of numbers."""
+    return [Eight((number, 0, 0, 0)) for number in poly]
+
+
+def wrong_divisors(norm):
+    """Values that are no divisor of degree 2 and more, with head 1, of the norm, which has none of degree 1."""
+    scaled_norms = [[2 * number for number in norm], [Ratio(-1) * number for number in norm], [*norm, 1]]
+    return wrong_polys() + scaled_norms + [
+        [], (), [0], [1], (1, 0), [2], [1, 1], [7, 1], [1, 0, Ratio(1, 2)], [17, 0, 1], [17, 1, 3, 1],
+        made_of(norm, norm), made_of(norm, [0, 1]), [0] * 24 + [1],
+    ]
+
+
+def refuses_divisors(case, action, norm):
+    case.refuses_each(InvalidDivisor, wrong_divisors(norm), action)

@@ -29,6 +29,28 @@ FUNCTIONS = {
         "right_divided(motion, other)", "left_divided(motion, other)", "right_worth(motion, eight)",
         "rest_by(motion, poly)",
     ],
+    "signs": ["real_roots(poly)", "square_free(poly)"],
+    "wholes": ["whole_parts(poly)", "is_whole(poly)", "quadratics(poly)", "bound_part(poly)"],
+    "sequences": ["divisors(poly)", "sequence_count(poly)", "sequences(poly)", "is_sequence(poly, value)"],
+    "parts": [
+        "right_part(motion, poly)", "left_part(motion, poly)", "is_right_part(motion, value)",
+        "is_left_part(motion, value)", "quotient(motion, part)",
+    ],
+    "meets": [
+        "within(motion, other)", "common_right(motion, other)", "right_parts(motion)",
+        "least_over(motion, poly, other)",
+    ],
+    "rows": [
+        "row_by(motion, sequence)", "a_row(motion)", "rows(motion)", "row_count(motion)", "is_row_of(motion, value)",
+    ],
+    "reasons": ["why_no_row(motion)", "is_why_no_row(motion, value)"],
+    "exchanges": ["exchanged(row, place)", "walk(row, other)", "is_walk(row, other, value)"],
+    "places": ["pose_at(motion, number)", "spots_at(motion, point, number)"],
+    "paths": [
+        "path(motion, point)", "path_degree(motion, point)", "fallen(motion, point)",
+        "is_on_path(motion, point, other)",
+    ],
+    "resting": ["rests(motion, point)", "resting(motion)"],
 }
 CLASSES = {
     ("ratios", "Ratio"): [
