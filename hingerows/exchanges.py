@@ -9,16 +9,15 @@ from hingerows.rows import last_hinge
 
 def exchanged(row, place):
     """The row exchanged at the place."""
-    check_row(row)
+    if not is_row(row):
+        raise InvalidRow(row)
     if not is_place_in(row, place):
         raise InvalidPlace(place)
     one, other = row[place], row[place + 1]
     both = row_motion([one, other])
     check_plain(both)
-    norm = hinge_norm(one)
-    if norm == hinge_norm(other):
-        return list(row)
-    last = last_hinge(both, norm)
+    # If both have the same norm, this is the other one, the only one with this norm, and the row stays.
+    last = last_hinge(both, hinge_norm(one))
     return [*row[:place], one + other - last, last, *row[place + 2:]]
 
 
@@ -48,12 +47,6 @@ def is_walk(row, other, value):
     return norms == [hinge_norm(hinge) for hinge in other]
 
 
-def check_row(row):
-    """Raise InvalidRow unless it is a row."""
-    if not is_row(row):
-        raise InvalidRow(row)
-
-
 def is_place_in(row, value):
     """Whether any value is a place at which the row can be exchanged."""
     return is_count(value) and value < len(row) - 1
@@ -66,8 +59,6 @@ def hinge_norm(hinge):
 
 def have_one_motion(row, other):
     """Whether both rows have the same motion, which has to be plain."""
-    check_row(row)
-    check_row(other)
     motion, moved = row_motion(row), row_motion(other)
     check_plain(motion)
     check_plain(moved)

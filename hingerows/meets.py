@@ -1,6 +1,5 @@
 """What right parts of plain motions have in common."""
 
-from hingerows.errors import TooMany
 from hingerows.euclid import common_right_part, first_part, lessened, second_part
 from hingerows.motions import Motion, check_motion
 from hingerows.parts import check_plain, ends_with, part_with_norm, told_divisor
@@ -36,10 +35,7 @@ def right_parts(motion):
     """The list of the right parts of all divisors of the norm, these sorted."""
     check_motion(motion)
     check_plain(motion)
-    norm = motion.norm()
-    if len(norm) > 9:
-        raise TooMany("degree", 8)
-    return [part_with_norm(motion, divisor) for divisor in divisors(norm) if len(divisor) > 1]
+    return [part_with_norm(motion, divisor) for divisor in divisors(motion.norm()) if len(divisor) > 1]
 
 
 def least_over(motion, poly, other):

@@ -122,7 +122,7 @@ def trimmed(values, nought):
 
 
 def products(values, others, nought):
-    """The product of two polynomials that are not empty."""
+    """The product of two polynomials, the second of which is not empty."""
     sums = [nought for _ in range(len(values) + len(others) - 1)]
     for low, one in enumerate(values):
         for high, two in enumerate(others):

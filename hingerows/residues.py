@@ -43,14 +43,12 @@ class Residues:
         return self.reduced(turned_quotient[::-1]), self.reduced(rest)
 
     def with_head_one(self, numbers):
-        """The polynomial divided by its head, which has no part in common with the modulus."""
-        if not numbers:
-            return []
+        """The polynomial, not nought, divided by its head, which has no part in common with the modulus."""
         scale = undone_number(numbers[-1], self.modulus)
         return self.reduced([scale * number for number in numbers])
 
     def common(self, ones, others):
-        """The common part, with head 1, where the modulus is a prime."""
+        """The common part, with head 1, of two that are not both nought, where the modulus is a prime."""
         while others:
             divisor = self.with_head_one(others)
             ones, others = divisor, self.parted(ones, divisor)[1]

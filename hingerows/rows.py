@@ -2,12 +2,13 @@
 
 from hingerows.basics import is_list
 from hingerows.divisions import rest_by
-from hingerows.errors import InvalidSequence, TooMany
+from hingerows.errors import InvalidSequence
 from hingerows.motions import check_motion, hinge_motion, is_row, row_motion
 from hingerows.parts import check_plain, quotient
 from hingerows.polys import is_poly, times, told
 from hingerows.ratios import Ratio
 from hingerows.sequences import sequence_count, sequences
+from hingerows.signs import told_within
 from hingerows.wholes import is_whole
 
 
@@ -45,10 +46,7 @@ def norm_to_eight(motion):
     """The norm of a plain motion, of degree 8 at most."""
     check_motion(motion)
     check_plain(motion)
-    norm = motion.norm()
-    if len(norm) > 9:
-        raise TooMany("degree", 8)
-    return norm
+    return told_within(motion.norm())
 
 
 def told_sequence(motion, sequence):
@@ -81,7 +79,7 @@ def row_of(motion, sequence):
         hinge = last_hinge(rest, quadratic)
         turned_row.append(hinge)
         rest = quotient(rest, hinge_motion(hinge))
-    turned_row.append(last_hinge(rest, sequence[0]))
+    turned_row.append(-rest.eights()[0])
     return turned_row[::-1]
 
 

@@ -26,25 +26,21 @@ def told_within(poly):
 
 def root_count(numbers):
     """How many unlike real roots a told polynomial of any degree has that is not nought (Sturm)."""
-    heads, degrees = [], []
-    for poly in contrary_rests(numbers):
-        heads.append(poly[-1].sign)
-        degrees.append(len(poly) - 1)
-    # Far below, a polynomial of odd degree has the sign that is contrary to its head's.
-    below = [-head if degree & 1 else head for head, degree in zip(heads, degrees)]
-    return sign_changes(below) - sign_changes(heads)
+    polys = contrary_rests(numbers)
+    above = [poly[-1].sign for poly in polys]
+    # Far below, a polynomial of odd degree, of even length, has the sign that is contrary to its head's.
+    below = [sign if len(poly) & 1 else -sign for sign, poly in zip(above, polys)]
+    return sign_changes(below) - sign_changes(above)
 
 
 def contrary_rests(numbers):
     """The polynomial, what it is derived to, and the contrary rests behind, up to the last that is not nought."""
-    chain = []
-    one, other = numbers, derived(numbers)
-    while one:
-        chain.append(one)
-        if not other:
-            return chain
-        one, other = other, with_small_head([-number for number in divided(one, other)[1]])
-    return chain
+    polys, following = [numbers], derived(numbers)
+    while following:
+        rest = divided(polys[-1], following)[1]
+        polys.append(following)
+        following = with_small_head([-number for number in rest])
+    return polys
 
 
 def with_small_head(numbers):

@@ -5,7 +5,7 @@ import unittest
 from fractions import Fraction
 
 from hingerows.eights import Eight
-from hingerows.errors import InvalidDivisor
+from hingerows.errors import InvalidDivisor, InvalidPoly, NoughtPoly, TooMany
 from hingerows.motions import Motion, hinge_motion, row_motion
 from hingerows.polys import times
 from hingerows.ratios import Ratio
@@ -309,6 +309,16 @@ def wrong_divisors(norm):
         [], (), [0], [1], (1, 0), [2], [1, 1], [7, 1], [1, 0, Ratio(1, 2)], [17, 0, 1], [17, 1, 3, 1],
         made_of(norm, norm), made_of(norm, [0, 1]), [0] * 24 + [1],
     ]
+
+
+def refuses_polys(case, action):
+    """The action of one polynomial takes those of degree 0 to 8 alone."""
+    case.refuses_each(InvalidPoly, [*wrong_polys(), [1] * 26], action)
+    for nought in ([], (), [0], [0, Ratio(0)] * 12):
+        case.refuses(NoughtPoly, {}, action, nought)
+    for high in ([0] * 9 + [1], [1] * 10, (1,) * 25, [0] * 24 + [Ratio(-1, 2)]):
+        case.refuses(TooMany, {"what": "degree", "limit": 8}, action, high)
+    action([1] * 9 + [0] * 16)
 
 
 def refuses_divisors(case, action, norm):

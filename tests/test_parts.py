@@ -2,7 +2,7 @@
 
 from hingerows.divisions import left_divided, rest_by, right_divided
 from hingerows.eights import Eight
-from hingerows.errors import InvalidMotion, NotPart, NotPlain
+from hingerows.errors import InvalidDivisor, InvalidMotion, NotPart, NotPlain
 from hingerows.motions import Motion, hinge_motion, number_part, row_motion
 from hingerows.parts import is_left_part, is_right_part, left_part, quotient, right_part
 from hingerows.polys import divided, told
@@ -221,6 +221,9 @@ class WrongValuesTest(Case):
                 self.refuses(NotPlain, {}, action, motion, motion)
                 self.refuses(NotPlain, {}, action, motion, None)
         go = alone(Eight((0, 0, 0, 0), (0, 1, 0, 0)))
+        for divisor in ([0, 1], (0, 1, 0), [1, 1], [1]):
+            self.refuses(InvalidDivisor, {"value": divisor}, right_part, go * BOTH, divisor)
+            self.refuses(InvalidDivisor, {"value": divisor}, left_part, go * BOTH, divisor)
         self.refuses(NotPlain, {}, right_part, go * BOTH, [0, 0, 1])
         self.refuses(NotPlain, {}, right_part, go * BOTH, made_of([0, 1], [1, 0, 1]))
         self.assertEqual(as_ratios([0, 0, 1]), go.norm())

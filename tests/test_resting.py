@@ -45,9 +45,10 @@ def turning():
 
 def unresting():
     """Motions by which no point rests."""
-    near = Eight((0, 0, 0, 1), (0, 1, 0, 0))
+    near, beside = Eight((0, 0, 0, 1), (0, 1, 0, 0)), Eight((2, 0, 0, 1), (0, 3, -1, 0))
     go = alone(Eight((0, 0, 0, 0), (0, 1, 0, 0)))
     return [
+        row_motion([UP, near, beside]), row_motion([beside, near]), row_motion([UP, beside, near, UP]),
         BOTH, go, row_motion([UP, near]), SQUARE * TURN * SQUARE, go * TURN, row_motion([UP, near.mirror()]),
         row_motion([FAST, SLOW]), row_motion([UP, SIDE, LEVEL, FAST]), alone(Eight((1, 0, 0, 0), (0, 0, 0, 1))),
         row_motion([*through((0, 0, 0), (0, 1, 0)), hinge_by(line_through((0, 0, 9), (1, 7, 0)), 0, 1)]),

@@ -2,12 +2,11 @@
 
 from math import factorial
 
-from hingerows.errors import InvalidPoly, NoughtPoly, TooMany
 from hingerows.polys import divided, scaled, told
 from hingerows.ratios import Ratio
 from hingerows.sequences import divisors, is_sequence, sequence_count, sequences
 from hingerows.wholes import whole_parts
-from tests.helpers import Case, as_ratios, fractions, made_of, strangers, wrong_polys
+from tests.helpers import Case, as_ratios, fractions, made_of, refuses_polys, strangers, wrong_polys
 
 I, II, III, IV = [1, 0, 1], [4, 0, 1], [1, 1, 1], [Ratio(1, 3), Ratio(-1, 2), 1]
 # Polynomials that fall into quadratics, each with its quadratics.
@@ -127,10 +126,4 @@ class WrongValuesTest(Case):
     def test_wrong_polynomials(self):
         actions = (divisors, sequence_count, sequences, lambda poly: is_sequence(poly, None))
         for action in actions:
-            self.refuses_each(InvalidPoly, wrong_polys(), action)
-            for nought in ([], (), [0], [0, Ratio(0)] * 12):
-                self.refuses(NoughtPoly, {}, action, nought)
-            for high in ([0] * 9 + [1], [1] * 10, (1,) * 25, [0] * 24 + [Ratio(-1, 2)]):
-                self.refuses(TooMany, {"what": "degree", "limit": 8}, action, high)
-            self.refuses(InvalidPoly, {"value": [1] * 26}, action, [1] * 26)
-            action([1] * 9 + [0] * 16)
+            refuses_polys(self, action)

@@ -1,12 +1,11 @@
 """Real roots and square-free parts (points 32, 33)."""
 
-from hingerows.errors import InvalidPoly, NoughtPoly, TooMany
 from hingerows.motions import row_motion
 from hingerows.polys import common, derived, divided, scaled, told
 from hingerows.ratios import Ratio
 from hingerows.signs import real_roots, square_free
 from hingerows.wholes import whole_parts
-from tests.helpers import Case, as_ratios, made_of, motions_not_plain, plain_rows, rowless_motions, wrong_polys
+from tests.helpers import Case, as_ratios, made_of, motions_not_plain, plain_rows, refuses_polys, rowless_motions
 
 # Polynomials without a real root, and such with two that are no fractions.
 ROOTLESS = [[1, 0, 1], [1, 1, 1], [5, -4, 1], [1, 0, 0, 0, 1], [Ratio(1, 7), 0, 2]]
@@ -98,10 +97,4 @@ class SquareFreeTest(Case):
 class WrongValuesTest(Case):
     def test_wrong_polynomials(self):
         for action in (real_roots, square_free):
-            self.refuses_each(InvalidPoly, wrong_polys(), action)
-            for nought in ([], (), [0], [0, Ratio(0)] * 12):
-                self.refuses(NoughtPoly, {}, action, nought)
-            for high in ([0] * 9 + [1], [1] * 10, (1,) * 25, [0] * 24 + [Ratio(-1, 2)]):
-                self.refuses(TooMany, {"what": "degree", "limit": 8}, action, high)
-            self.refuses(InvalidPoly, {"value": [1] * 26}, action, [1] * 26)
-            action([1] * 9 + [0] * 16)
+            refuses_polys(self, action)

@@ -3,13 +3,12 @@
 from fractions import Fraction
 from itertools import product
 
-from hingerows.errors import InvalidPoly, NoughtPoly, TooMany
 from hingerows.polys import divided, scaled, told
 from hingerows.ratios import Ratio
 from hingerows.residues import Residues
 from hingerows.splitting import prime_parts
 from hingerows.wholes import bound_part, is_whole, quadratics, whole_parts
-from tests.helpers import Case, as_ratios, fractions, made_of, some_numbers, wrong_polys
+from tests.helpers import Case, as_ratios, fractions, made_of, refuses_polys, some_numbers
 
 # Whole by a prime that divides all numbers but the head, and once the first one (Eisenstein), or as told.
 EISENSTEIN = [
@@ -211,10 +210,4 @@ class BoundPartTest(Case):
 class WrongValuesTest(Case):
     def test_wrong_polynomials(self):
         for action in (whole_parts, is_whole, quadratics, bound_part):
-            self.refuses_each(InvalidPoly, wrong_polys(), action)
-            for nought in ([], (), [0], [0, Ratio(0)] * 12):
-                self.refuses(NoughtPoly, {}, action, nought)
-            for high in ([0] * 9 + [1], [1] * 10, (1,) * 25, [0] * 24 + [Ratio(-1, 2)]):
-                self.refuses(TooMany, {"what": "degree", "limit": 8}, action, high)
-            self.refuses(InvalidPoly, {"value": [1] * 26}, action, [1] * 26)
-            action([1] * 9 + [0] * 16)
+            refuses_polys(self, action)
