@@ -51,6 +51,14 @@ FUNCTIONS = {
         "is_on_path(motion, point, other)",
     ],
     "resting": ["rests(motion, point)", "resting(motion)"],
+    "chains": [
+        "closes(row, other)", "opens_at(row, other)", "is_opening(row, other, value)", "chain(row, other)",
+        "chains(motion)",
+    ],
+    "closing": ["chain_of_four(hinge, other)", "is_chain_of_four(value)"],
+    "bennett": ["sides(hinges)", "is_bennett(hinges)"],
+    "through": ["between(pose, other)", "three_motion(poses)", "is_through(poses, value)"],
+    "changes": ["changed(motion, table)", "led_motion(motion, pose)", "led_row(row, pose)"],
 }
 CLASSES = {
     ("ratios", "Ratio"): [
