@@ -59,6 +59,15 @@ FUNCTIONS = {
     "bennett": ["sides(hinges)", "is_bennett(hinges)"],
     "through": ["between(pose, other)", "three_motion(poses)", "is_through(poses, value)"],
     "changes": ["changed(motion, table)", "led_motion(motion, pose)", "led_row(row, pose)"],
+    "likeness": ["alike(motion, other)", "is_alike(motion, other, value)", "frames(motion)"],
+    "texts": ["sorts()", "is_of(sort, value)", "written(sort, value)"],
+    "readers": ["read(text)"],
+    "claims": [
+        "words()", "is_claim(value)", "is_true(claim)", "contrary(claim)", "paper_of(claim)",
+        "is_paper_of(claim, value)",
+    ],
+    "commands": ["is_name(value)", "is_command(value)", "is_deed(value)"],
+    "desk": ["tried(desk, action)"],
 }
 CLASSES = {
     ("ratios", "Ratio"): [
@@ -76,11 +85,18 @@ CLASSES = {
         "__init__(self, eights)", "eights(self)", "norm(self)", "mirror(self)", "worth(self, number)",
         "__mul__(self, other)", "__eq__(self, other)", "__repr__(self)",
     ],
+    ("desk", "Desk"): [
+        "__init__(self)", "__len__(self)", "__getitem__(self, at)", "__contains__(self, x)",
+        "__call__(self, command)", "claim_of(self, label)", "do(self, command)", "do_all(self, *commands)",
+        "attempt(self, *commands)", "attach(self, label, paper)", "fits(self, label)", "lines(self)", "copy(self)",
+    ],
+    ("desk", "Trial"): ["__init__(self, desk)", "__enter__(self)", "__exit__(self, kind, value, trace)"],
 }
 PROPERTIES = {
     ("ratios", "Ratio"): ["top", "bottom", "sign", "is_whole"],
     ("eights", "Eight"): ["is_pose", "is_hinge"],
     ("motions", "Motion"): ["degree", "is_plain"],
+    ("desk", "Desk"): ["names", "labels"],
 }
 
 
@@ -110,7 +126,10 @@ class InterfaceTest(unittest.TestCase):
             for one in names:
                 self.assertIsInstance(vars(getattr(module(place), name))[one], property)
 
-    def test_totals_are_told_by_the_class(self):
-        kind = module("ratios").Ratio
-        self.assertIsInstance(vars(kind)["total"], classmethod)
-        self.assertEqual("(numbers)", str(inspect.signature(kind.total)))
+    def test_class_methods(self):
+        for place, name, method, head in (
+            ("ratios", "Ratio", "total", "(numbers)"), ("desk", "Desk", "again", "(lines)"),
+        ):
+            kind = getattr(module(place), name)
+            self.assertIsInstance(vars(kind)[method], classmethod)
+            self.assertEqual(head, str(inspect.signature(getattr(kind, method))))
