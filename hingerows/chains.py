@@ -1,4 +1,4 @@
-"""Rows that close to chains, and numbers that open others."""
+"""Rows that close to chains, and numbers at which others do not."""
 
 from hingerows.errors import NotClosed, SharedEnd
 from hingerows.motions import row_motion

@@ -69,7 +69,7 @@ def check_claim(claim):
 def parts_of(word):
     """The sorts of the parts behind the word, None if any value is no word of a claim."""
     for one, other in PAIRS:
-        if isinstance(word, str) and word in (one, other):
+        if word in (one, other):
             return PARTS[one]
     return None
 

@@ -28,7 +28,7 @@ def ratios_in(word, most):
 def pair_in(word, size, most):
     """The tuple of two tuples of so many Ratios each, with a semicolon between, None if it is none."""
     sides = [ratios_in(part, most) for part in word.split(";")]
-    if len(sides) != 2 or None in sides or [len(side) for side in sides] != [size, size]:
+    if None in sides or [len(side) for side in sides] != [size, size]:
         return None
     return (tuple(sides[0]), tuple(sides[1]))
 

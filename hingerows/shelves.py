@@ -1,6 +1,6 @@
 """What a desk keeps under names and notes under labels at one moment."""
 
-from hingerows.claims import is_claim, is_true, parts_of
+from hingerows.claims import is_claim, is_true
 from hingerows.eights import Eight
 from hingerows.errors import LabelTaken, NameTaken, UnknownLabel, UnknownName, WrongThing
 from hingerows.motions import Motion
@@ -59,9 +59,8 @@ def copied(thing):
 def claim_by(things, words):
     """The claim that the words make of the things, None while it is gone."""
     word, *names = words
-    for name, wanted in zip(names, parts_of(word)):
-        if name not in things or kind_of(things[name]) != wanted:
-            return None
+    if not all([name in things for name in names]):
+        return None
     claim = (word, *[copied(things[name]) for name in names])
     return claim if is_claim(claim) else None
 

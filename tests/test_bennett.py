@@ -117,6 +117,11 @@ class IsBennettTest(Case):
         self.assertBool(False, is_bennett(ring(0, 1, 3, 4)))
         self.assertEqual([4, 1, 16, 1], [side[0].top for side in sides(ring(1, 3, 4, 0))])
         self.assertBool(False, is_bennett(ring(1, 3, 4, 0)))
+        # Here the first two sides keep the rule, and just one of the others is unlike.
+        self.assertEqual([1, 1, 1, 9], [side[0].top for side in sides(ring(0, 1, 2, 3))])
+        self.assertBool(False, is_bennett(ring(0, 1, 2, 3)))
+        self.assertEqual([1, 1, 9, 1], [side[0].top for side in sides(ring(1, 2, 3, 0))])
+        self.assertBool(False, is_bennett(ring(1, 2, 3, 0)))
         self.assertEqual([4, 4, 4, 4], [side[0].top for side in sides(ring(0, 2, 0, -2))])
         self.assertBool(True, is_bennett(ring(0, 2, 0, -2)))
 

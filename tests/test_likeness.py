@@ -128,6 +128,13 @@ class AlikeTest(Case):
             for value in some_poses(2) + [ONE]:
                 self.assertBool(False, is_alike(one, other, value))
 
+    def test_unlike_degrees_with_the_same_eights_ahead(self):
+        one, other = Motion([UP, ONE]), Motion([UP, ONE, ONE])
+        self.assertIsNone(alike(one, other))
+        self.assertIsNone(alike(other, one))
+        self.assertBool(False, is_alike(one, other, ONE))
+        self.assertBool(False, is_alike(other, one, ONE))
+
     def test_the_same_row_turned_about(self):
         # Half turns lead the one to the other.
         self.assertAlike(BOTH, BOTH.mirror())
